@@ -1,0 +1,1 @@
+"""Stillmain: permits on a works of mains."""
