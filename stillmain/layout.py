@@ -13,6 +13,7 @@ class Layout:
     """Rooms, lines, drains and sources, by their names."""
 
     def __init__(self):
+        # Rooms and sources are dicts of True: a set may not be kept in an object.
         self._rooms = {}
         self._lines = {}
         self._drains = {}
