@@ -5,6 +5,7 @@ HIGHEST_COST = 99
 LAST_TIME = 10 ** 9
 MOST_NAMES = 60
 MOST_IN_STRETCH = 24
+MOST_IN_CREW = 6
 POSITIONS = ("open", "shut")
 
 
@@ -47,3 +48,8 @@ def are_names(thing):
 def is_stretch(thing):
     """Tell whether it is names, 1 to 24 of them."""
     return are_names(thing) and 1 <= len(thing) <= MOST_IN_STRETCH
+
+
+def is_crew(thing):
+    """Tell whether it is names, 1 to 6 of them."""
+    return are_names(thing) and 1 <= len(thing) <= MOST_IN_CREW

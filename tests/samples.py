@@ -59,3 +59,28 @@ def not_costs():
     """Things that are no cost."""
     numbers = [number for number in whole_numbers() if number < 0 or number > 99]
     return strange_things() + odd_texts() + numbers + name_lists() + ["a", "open"]
+
+
+def not_name_lists():
+    """Things that are no names."""
+    spoilt = [["a", thing] for thing in odd_texts()[:40] + whole_numbers()]
+    return (strange_things() + odd_texts() + whole_numbers() + spoilt + ["a", "open"]
+            + [many_names(61), many_names(63), many_names(60) + ["naz"], ["a", "b", "a"],
+               ["a"] * 60, many_names(24) + ["A"], tuple(many_names(3)), set(many_names(3)),
+               {name: True for name in many_names(3)}])
+
+
+def not_stretches():
+    """Things that are no stretch."""
+    return not_name_lists() + [[], many_names(25), many_names(60)]
+
+
+def not_crews():
+    """Things that are no crew."""
+    return not_name_lists() + [[], many_names(7), many_names(24), many_names(60)]
+
+
+def not_positions():
+    """Things that are no position."""
+    return strange_things() + odd_texts() + whole_numbers() + name_lists() + [
+        "a", "opened", "shu", "shutt", "shutopen", "op"]
