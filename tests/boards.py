@@ -1,5 +1,6 @@
 """Boards to ask, and what they tell."""
 
+from keeping import kept
 from samples import many_names
 from stillmain.board import Board
 
@@ -43,7 +44,7 @@ def full_board():
 def all_told_of(board):
     """All that a board tells."""
     devices, jobs = board.devices(), board.jobs()
-    return {
+    return kept({
         "devices": devices,
         "jobs": jobs,
         "stands": [board.stands(device) for device in devices],
@@ -54,4 +55,4 @@ def all_told_of(board):
         "crew_of": [board.crew_of(job) for job in jobs],
         "held_by": [board.held_by(job) for job in jobs],
         "holders": [[board.holders(device, job) for job in jobs + [None]] for device in devices],
-    }
+    })

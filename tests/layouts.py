@@ -1,5 +1,6 @@
 """Layouts to ask, and what they tell."""
 
+from keeping import kept
 from samples import many_names
 from stillmain.layout import Layout
 
@@ -36,7 +37,7 @@ def full_layout():
 
 def all_told(layout):
     """All that a layout tells."""
-    return {
+    return kept({
         "rooms": layout.rooms(),
         "lines": layout.lines(),
         "drains": layout.drains(),
@@ -44,4 +45,4 @@ def all_told(layout):
         "line": [layout.line(line) for line in layout.lines()],
         "drain": [layout.drain(drain) for drain in layout.drains()],
         "lines_at": [layout.lines_at(room) for room in layout.rooms()],
-    }
+    })
