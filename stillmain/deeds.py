@@ -86,6 +86,11 @@ def answer_to(works, deed):
         return "refused", "NotDry", wet.damp
 
 
+def copied_deed(deed):
+    """Tell a deed that is alike, with a list of its own where it has one."""
+    return tuple([list(worth) if isinstance(worth, list) else worth for worth in deed])
+
+
 def show_deed(deed):
     """Tell the text of a deed."""
     word, *things = deed

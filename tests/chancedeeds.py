@@ -25,6 +25,16 @@ class Pool:
         self.hands = names[:hands]
         self.costs = costs
 
+    def layout_deeds(self, chance, lines, drains):
+        """The deeds of a layout of all rooms, so many lines and drains, and two sources."""
+        deeds = [("add_room", room) for room in self.rooms]
+        for line in self.lines[:lines]:
+            # The last rooms of many stay without lines, so that they can be taken away.
+            ends = chance.sample(self.rooms[:22], 2)
+            deeds.append(("add_line", line) + tuple(ends) + (chance.choice(self.costs),))
+        deeds += [("add_drain", drain, chance.choice(self.rooms)) for drain in self.drains[:drains]]
+        return deeds + [("add_source", room) for room in self.rooms[:2]]
+
     def deed(self, chance, works):
         """A deed, with an eye on how the works stands."""
         if not works.jobs() and chance.random() < 0.5:

@@ -80,7 +80,8 @@ class DoDeedTest(unittest.TestCase):
 
     def test_refused_as_the_method_refuses(self):
         for deed, kind, kept in (
-                (("add_room", "p"), There, "p"), (("take_room", "p"), InUse, "p"), (("turn", "c", "open"), Held, ["ann", "dee"]),
+                (("add_room", "p"), There, "p"), (("take_room", "p"), InUse, "p"),
+                (("turn", "c", "open"), Held, ["ann", "dee"]),
                 (("begin", "bo"), NoPart, ["p"]), (("step", "jo"), NotNow, "jo"), (("relieve", "x", "y"), Lacks, "x")):
             works = given_works()
             ahead = all_told_of_works(works)
