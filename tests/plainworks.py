@@ -1,8 +1,7 @@
 """A works kept in plain notes, to hold the program's one against: each deed tells an answer."""
 
-import copy
-
 from brute import first_shortest_way, least_by_trying, made_layout
+from keeping import kept
 from stillmain.errors import NoPart
 from stillmain.least import least_lot
 
@@ -46,7 +45,7 @@ class PlainWorks:
         self.jobs, self.wet = {}, []
 
     def answer(self, deed):
-        ahead = copy.deepcopy(self.told())
+        ahead = kept(self.told())
         try:
             told = getattr(self, deed[0])(*deed[1:])
         except Refused as refusal:

@@ -8,7 +8,6 @@ from boards import all_told_of, full_board, hung_board
 from samples import many_names, not_crews, not_names, not_positions
 from stillmain.board import Board
 from stillmain.errors import Lacks, Wrong
-from stillmain.kinds import is_crew
 
 DOORS = {
     "add": ("name", "position"), "take": ("name",), "crew": ("name", "hands"), "leave": ("name",),
@@ -94,9 +93,7 @@ class DoorsTest(unittest.TestCase):
             self.assert_wrong(board, 1, "crew", "jo", hands)
             self.assert_wrong(board, 1, "crew", "new", hands)
             self.assert_wrong(full_board(), 1, "crew", "new", hands)
-            self.assertIs(is_crew(hands), False)
         for many in range(1, 7):
-            self.assertIs(is_crew(many_names(many)), True)
             board.crew("jo", many_names(many))
 
     def test_wrong_goes_ahead_of_lacks(self):

@@ -253,11 +253,18 @@ class QuestionsTest(DeskTest):
             for room in works.layout().rooms():
                 due = way_to(works.layout(), works.shut(), [room])
                 self.assert_says(desk, f"at {time} way {room}", " ".join(due or ["none"]))
-            for device in works.board().devices():
-                self.assert_says(desk, f"at {time} stands {device}", works.board().stands(device))
+            board = works.board()
+            for device in board.devices():
+                self.assert_says(desk, f"at {time} stands {device}", board.stands(device))
+                tags = [f"{job}/{hand}" for job, hand in board.tags(device)]
+                self.assert_says(desk, f"at {time} tags {device}", " ".join(tags) or "none")
             for job in works.jobs():
                 self.assert_says(desk, f"at {time} phase {job}", works.phase(job))
                 self.assert_says(desk, f"at {time} crew {job}", " ".join(works.crew_at(job)))
+                lot = [" ".join(names) or "-" for names in works.lot(job)]
+                self.assert_says(desk, f"at {time} lot {job}", " ; ".join(lot))
+                steps = [f"{device} {position or 'free'}" for device, position in works.steps_left(job)]
+                self.assert_says(desk, f"at {time} steps {job}", ", ".join(steps) or "none")
 
     def test_names_like_words_of_the_desk(self):
         desk = desk_of_rows("add_room at", "add_room none", "add_line paper at none 3", "add_source none",

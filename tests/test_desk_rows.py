@@ -114,7 +114,8 @@ class NoRowTest(RowsTest):
                      "step", "step jo 1"):
             self.assert_no_row(f"paper 1 900 {deed}")
         for row in ("paper", "paper ", "paper 1", "paper 1 900", "paper 1 900 ", "paper add_room p",
-                    "paper 1 add_room p", "paper 1 900 900 add_room p", "Paper 1 900 add_room p", "papers 1 900 add_room p"):
+                    "paper 1 add_room p", "paper 1 900 900 add_room p", "Paper 1 900 add_room p",
+                    "papers 1 900 add_room p"):
             self.assert_no_row(row)
 
 
